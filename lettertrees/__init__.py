@@ -1,0 +1,1 @@
+"""Lettertrees: routines that keep words by their letters in a tree."""
