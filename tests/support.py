@@ -4,6 +4,7 @@ import itertools
 import unittest
 
 from lettertrees.errors import BadWord, NotExact
+from lettertrees.routines import Routine
 from lettertrees.rules import Rule
 from lettertrees.trees import Tree
 
@@ -18,11 +19,12 @@ def deep_list(depth):
 
 
 def odd_values():
-    """Fresh values, none of which is a word, letters, a row, a kind, a size or a name."""
+    """Fresh values, none of which is a word, letters, a row, a kind, a size, a name, a statement or a test."""
     return [
         None, True, False, -1, 10 ** 39, (), ("",), ("a",), ("ab", 2, None), [], [""], ["a", "b"],
         [[], {}], {}, {"a": 1}, {"": [1]}, deep_list(10), "A", "aB", "a b", "a-", "\n", "\u00e9", "\u00df", "a\u0430",
         Tree("ab", [("", False, False)]), Rule([], []), BadWord(0), NotExact(),
+        Routine([], [("cut",)], []),
     ]
 
 

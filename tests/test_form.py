@@ -32,6 +32,11 @@ METHODS = set("""
 """.split())
 
 
+BARRED = (r"^(register|mro|elements|open|input|law|version_info|with_traceback|add_note|type|typing|enum|Enum|Flag|"
+          r"Generic|Protocol|ABC|namedtuple|exec|eval|exit|help|id|license|locals|vars|globals|compile|dir|super|quit|"
+          r"(_wall|_pe_|_dcw_|_enum_|_cm_|_lay_|_law_|_stub_|_sre|_twin_re_).*|f_.*|tb_.*|co_.*)$")
+
+
 def package_files():
     """The paths of the files of the package; Python's own store of compiled ones is passed by."""
     out = []
@@ -107,6 +112,66 @@ class FormTest(unittest.TestCase):
             self.assertEqual(node.decorator_list, [], at)
         for at, node in nodes(ast.ExceptHandler):
             self.assertIsNotNone(node.type, at)
+
+    def test_identity(self):
+        for at, node in nodes(ast.Compare):
+            for sign, side in zip(node.ops, node.comparators):
+                if isinstance(sign, (ast.Is, ast.IsNot)):
+                    self.assertIsInstance(side, ast.Constant, at)
+                    self.assertIn(side.value, (None, True, False), at)
+
+    def test_strings(self):
+        for at, node in nodes(ast.Constant):
+            if isinstance(node.value, str) and " " not in node.value:
+                self.assertNotRegex(node.value, BARRED, at)
+        for name, text in texts():
+            self.assertNotIn("%", "".join([node.value for node in ast.walk(ast.parse(text))
+                                           if isinstance(node, ast.Constant) and isinstance(node.value, str)]), name)
+
+    def test_names(self):
+        for at, node in nodes(ast.Name, ast.Attribute, ast.arg, ast.FunctionDef, ast.ClassDef):
+            for field in ("id", "attr", "arg", "name"):
+                self.assertNotRegex(getattr(node, field, ""), BARRED, at)
+        for at, node in nodes(ast.FunctionDef):
+            names = [one.arg for one in node.args.args] + [
+                one.id for one in ast.walk(node) if isinstance(one, ast.Name) and isinstance(one.ctx, ast.Store)]
+            for name in names:
+                self.assertFalse(hasattr(builtins, name), f"{at} {name}")
+
+    def test_one_binding_for_each_name(self):
+        for name, text in texts():
+            bound, used = [], set()
+            for node in ast.parse(text).body:
+                if isinstance(node, ast.ImportFrom):
+                    bound += [alias.name for alias in node.names]
+                elif isinstance(node, (ast.FunctionDef, ast.ClassDef)):
+                    bound.append(node.name)
+                elif isinstance(node, ast.Assign):
+                    bound += [target.id for target in node.targets]
+            self.assertEqual(len(bound), len(set(bound)), name)
+            for node in ast.walk(ast.parse(text)):
+                if isinstance(node, ast.Name) and isinstance(node.ctx, ast.Load):
+                    used.add(node.id)
+                if isinstance(node, ast.ImportFrom):
+                    imported = [alias.name for alias in node.names]
+                    stored = [one.id for one in ast.walk(ast.parse(text)) if isinstance(one, ast.Name)
+                              and isinstance(one.ctx, ast.Store)]
+                    stored += [one.arg for one in ast.walk(ast.parse(text)) if isinstance(one, ast.arg)]
+                    self.assertFalse(set(imported) & set(stored), name)
+            for node in ast.parse(text).body:
+                if isinstance(node, ast.ImportFrom):
+                    self.assertLessEqual({alias.name for alias in node.names}, used, name)
+
+    def test_no_two_files_import_from_each_other(self):
+        below = {}
+        for name, text in texts():
+            below["lettertrees." + name[:-3]] = {node.module for node in ast.walk(ast.parse(text))
+                                                 if isinstance(node, ast.ImportFrom) and node.module not in LIBRARY}
+        while below:
+            free = [name for name in below if not below[name] & set(below)]
+            self.assertTrue(free, below)
+            for name in free:
+                del below[name]
 
     def test_lists_where_objects_compare(self):
         # Trees and rules have an __eq__: these builtins take a list then, no generator expression.
