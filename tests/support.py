@@ -4,6 +4,7 @@ import itertools
 import unittest
 
 from lettertrees.errors import BadWord, NotExact
+from lettertrees.ratios import Ratio
 from lettertrees.routines import Routine
 from lettertrees.rules import Rule
 from lettertrees.trees import Tree
@@ -24,7 +25,7 @@ def odd_values():
         None, True, False, -1, 10 ** 39, (), ("",), ("a",), ("ab", 2, None), [], [""], ["a", "b"],
         [[], {}], {}, {"a": 1}, {"": [1]}, deep_list(10), "A", "aB", "a b", "a-", "\n", "\u00e9", "\u00df", "a\u0430",
         Tree("ab", [("", False, False)]), Rule([], []), BadWord(0), NotExact(),
-        Routine([], [("cut",)], []),
+        Routine([], [("cut",)], []), Ratio(7, 13),
     ]
 
 

@@ -287,10 +287,13 @@ class RoutineTest(TreesCase):
                         self.assertEqual(Routine([], [], block).names(), wanted)
         for chosen in itertools.product([False, True], repeat=3):
             wanted = tuple(name for name, named in zip("pxy", chosen) if named)
-            test = ("true",)
-            for name in wanted:
-                test = ("and", ("not", (name,)), test)
-            self.assertEqual(Routine([("if", test, [("mark",)], [])], [], []).names(), wanted)
+            for sign in ("and", "or"):
+                test = other = ("true",)
+                for name in wanted:
+                    test = (sign, ("not", (name,)), test)
+                    other = (sign, other, ("here",) if name == "p" else (name,))
+                self.assertEqual(Routine([("if", test, [("mark",)], [])], [], []).names(), wanted)
+                self.assertEqual(Routine([], [], [("if", other, [("mark",)], [])]).names(), wanted)
         self.assertEqual(Routine([("set", "y", True)], [("set", "x", True)], [("return", "p")]).names(),
                          ("p", "x", "y"))
         self.assertEqual(Routine([], [], []).names(), ())

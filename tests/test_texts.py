@@ -304,10 +304,9 @@ class TextTest(TreesCase):
         for line in ("Mark", "marked", "make it", "f=true", "f = True", "f = 1", "p = true", "x = y", "mark:", "return",
                      "return  yes", "return Yes", "return none", "return p,cut", "return p,  cut", "return p , cut",
                      "return yes cut", "return cut", "if", "if x", "if:", "if :", "if  x:", "if x :", "if x: mark",
-                     "if x::", "elif", "elif:", "elif x", "elif  x:", "else", "else :", "else: ", "else x:",
-                     "else if x:",
-                     "elseif x:", "pass", "# mark", "mark # x", "while x:", "set f", "keep p", "stop.", "IF x:",
-                     "ifx:"):
+                     "if x::", "if x.", "elif x.", "elif", "elif:", "elif x", "elif  x:", "else", "else :", "else: ",
+                     "else x:", "else if x:", "elseif x:", "pass", "# mark", "mark # x", "while x:", "set f",
+                     "keep p", "stop.", "IF x:", "ifx:"):
             self.assert_bad(1, "turn:\n    " + line)
             self.assert_bad(3, "turn:\n    if x:\n        mark\n    " + line)
 
@@ -322,11 +321,15 @@ class TextTest(TreesCase):
         for test in BAD_TESTS:
             self.assert_bad(1, "down:\n    if " + test + ":\n        mark")
             self.assert_bad(3, "down:\n    if x:\n        mark\n    elif " + test + ":\n        mark")
+            # It is told ahead of what is wrong further down.
+            self.assert_bad(1, "down:\n    if " + test + ":")
+            self.assert_bad(1, "down:\n    if " + test + ":\n        mark\n\n")
         for text, _ in NESTED:
             for bad in (f"({text})", text + ")", "(" + text, text + " ", " " + text, text.replace(" ", "  ", 1),
                         text.replace("f", "(f)", 1) + ("" if "f" in text else " "), f"not not ({text}))",
                         f"({text}) and ((x))"):
                 self.assert_bad(1, "down:\n    if " + bad + ":\n        mark")
+                self.assert_bad(1, "down:\n    if " + bad + ":")
 
     def test_six_and_seven_tests(self):
         for six in ("not not not not not f", "f and f and f and f and f and f", "f or f or f or f or f or x",
