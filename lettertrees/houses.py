@@ -130,13 +130,13 @@ def least_rule(routines):
 def known_house(name):
     """The house of one of four names."""
     if name == "up":
-        return House(known_rule("plain"), routines_of(UP))
+        return House(known_rule("plain"), routines_of(dict(UP)))
     if name == "kept":
-        return House(known_rule("plain"), routines_of(KEPT))
+        return House(known_rule("plain"), routines_of(dict(KEPT)))
     if name == "joined":
-        return House(known_rule("joined"), routines_of(JOINED))
+        return House(known_rule("joined"), routines_of(dict(JOINED)))
     if name == "lazy":
-        return House(known_rule("bare"), routines_of(LAZY))
+        return House(known_rule("bare"), routines_of(dict(LAZY)))
     raise BadName(name)
 
 

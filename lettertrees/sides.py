@@ -6,11 +6,11 @@ that does not go down all is as before, or bare and just made. at_one tells whet
 answers is in the rest, and the same one.
 """
 
-from lettertrees.closing import cells_let
 from lettertrees.least import GOAL, Least
 from lettertrees.outcomes import FRESH
-from lettertrees.parts import PLACE, cheapest_cells, places_at
-from lettertrees.stays import BOOLS, NO_ENTRY, Stays, entry_of, own_of
+from lettertrees.parts import PLACE, places_at
+from lettertrees.runs import cells_of
+from lettertrees.stays import BOOLS, NO_ENTRY, Stays, entry_of, named_in, own_of
 
 NOTHING = (False, (None, None), True, False)
 
@@ -20,22 +20,13 @@ def place_told(how):
     return how[3] if how[0] == "up" else how[1]
 
 
-def named_in(how):
-    """How a call is behind a rest, its first place being told as any place in the rest."""
-    told = how[:2] if how[0] == "cut" else how
-    return tuple(["in" if part == "here" else part for part in told])
-
-
 class Sides:
     """What comes up of the calls of two routines under a rule."""
 
     def __init__(self, one, other, rule):
         self.stays = (Stays(one), Stays(other))
         self.rule = rule
-        self.cells = {}
-        for root in BOOLS:
-            for goes_on in BOOLS:
-                self.cells[(root, goes_on)] = cheapest_cells(rule, cells_let(rule, root, goes_on))
+        self.cells = cells_of(rule)
         self.met = self.entries_met()
 
     def gone_down(self, cell, root, follows, entries):

@@ -49,6 +49,12 @@ def cut_here(how, row):
     return ("end", how[1]) if follows else ("misuse", "none"), (mark, flag, False)
 
 
+def named_in(how):
+    """How a call is behind a rest, its first place being told as any place in the rest."""
+    told = how[:2] if how[0] == "cut" else how
+    return tuple(["in" if part == "here" else part for part in told])
+
+
 class Stays:
     """The stays of calls of a routine; what was done once is kept, for there are few ways in which a place is met."""
 

@@ -15,7 +15,7 @@ from lettertrees.tables import longer, whole
 from lettertrees.trees import Tree
 from lettertrees.verdicts import Right, Wrong, verdict
 from tests.drawing import Drawer
-from tests.searching import BOOLS, KINDS, NAMES, ONE_WAY, drawn_rule, least_tree, small_trees, is_wrong_on, variants
+from tests.searching import BOOLS, KINDS, ONE_WAY, drawn_rule, small_trees, variants
 from tests.support import ALPHABET, TreesCase, odd_values
 from tests.test_tables import ALL_CELLS, MANY
 
