@@ -17,9 +17,9 @@ class Chains:
         self.rule = rule
         self.runs = Runs(routine, rule)
         # From each rest to the pairs ((cell, flags), rest that begins one place higher).
-        self.above = closed(self.all_above, None)
+        self.ways_up = closed(self.all_above, None)
         # From each rest to the pairs (cell, flags) of roots.
-        self.tops = {rest: self.all_tops(rest) for rest in self.above}
+        self.tops = {rest: self.all_tops(rest) for rest in self.ways_up}
 
     def all_above(self, behind):
         there, run = (False, None) if behind is None else behind
@@ -39,10 +39,10 @@ class Chains:
 
     def fewest_above(self):
         """A dict from the rests that hang below some root to how few words may be kept at all places above them."""
-        steps = {rest: [] for rest in self.above}
+        steps = {rest: [] for rest in self.ways_up}
         starts = []
-        for rest in self.above:
-            for label, higher in self.above[rest]:
+        for rest in self.ways_up:
+            for label, higher in self.ways_up[rest]:
                 steps[higher].append((words_at(self.rule, label[0]), None, rest))
             starts.extend([(words_at(self.rule, cell), None, rest) for cell, _ in self.tops[rest]])
         reached = Least(starts, lambda rest: steps[rest]).reached
@@ -53,7 +53,7 @@ class Chains:
         fewest = {None: 0}
 
         def steps(rest):
-            return [(words_at(self.rule, label[0]), None, higher) for label, higher in self.above[rest]]
+            return [(words_at(self.rule, label[0]), None, higher) for label, higher in self.ways_up[rest]]
 
         reached = Least(steps(None), steps).reached
         for rest in reached:
@@ -63,7 +63,7 @@ class Chains:
     def steps_between(self, rests):
         """All (rest, higher rest, words, flags) among these rests: what is kept and done at the place between."""
         return [(rest, higher, words_at(self.rule, label[0]), label[1])
-                for rest in rests for label, higher in self.above[rest] if higher in rests]
+                for rest in rests for label, higher in self.ways_up[rest] if higher in rests]
 
 
 def has_circle(steps):

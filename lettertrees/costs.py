@@ -46,7 +46,7 @@ class Costs:
             last = self._levels[-1]
             most = {}
             for rest in last:
-                for (cell, flags), higher in self._chains.above[rest]:
+                for (cell, flags), higher in self._chains.ways_up[rest]:
                     steps = last[rest][0] + len(flags)
                     if higher not in most or most[higher][0] < steps:
                         most[higher] = (steps, cell, rest)

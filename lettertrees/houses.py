@@ -10,11 +10,14 @@ from lettertrees.right import judged
 from lettertrees.routines import Routine
 from lettertrees.rules import BARE, Rule, known_rule
 from lettertrees.tables import tables
-from lettertrees.texts import JOINED, KEPT, LAZY, UP
+from lettertrees.texts import texts_of
 from lettertrees.trees import ALPHABET, Tree
 from lettertrees.verdicts import is_fine, verdict
 from lettertrees.wishes import check_wish
 from lettertrees.wrongs import least_wrong_way
+
+# The known rule of each known house.
+RULES = {"up": "plain", "kept": "plain", "joined": "joined", "lazy": "bare"}
 
 
 class House:
@@ -129,17 +132,8 @@ def least_rule(routines):
 
 def known_house(name):
     """The house of one of four names."""
-    if name == "up":
-        return House(known_rule("plain"), routines_of(dict(UP)))
-    if name == "kept":
-        return House(known_rule("plain"), routines_of(dict(KEPT)))
-    if name == "joined":
-        return House(known_rule("joined"), routines_of(dict(JOINED)))
-    if name == "lazy":
-        return House(known_rule("bare"), routines_of(dict(LAZY)))
-    raise BadName(name)
-
-
-def routines_of(texts):
-    """A dict from the wishes to the routines with these texts."""
-    return {wish: Routine.read(texts[wish]) for wish in texts}
+    texts = texts_of(name)
+    if texts is None:
+        raise BadName(name)
+    rule = known_rule(RULES[name])
+    return House(rule, {wish: Routine.read(texts[wish]) for wish in texts})

@@ -29,7 +29,7 @@ def links_of(order, link, shared):
     """
     firsts = {sign: order.index(sign) for sign in "ab"}
     out = []
-    for sign, other in ("ab", "ba"):
+    for sign, other in (("a", "b"), ("b", "a")):
         is_through = order.rfind(sign) < firsts[other]
         # The step of going up, or of cutting.
         is_back = order[:firsts[other]].count(sign) > 1

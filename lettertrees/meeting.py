@@ -110,10 +110,10 @@ class Meeting:
                 behind = self.joints.behind(root, place, below, before, option)
             if not root:
                 out.append((order, (link, cell is not None, runs, before, behind)))
-            elif behind is None or not is_as_if(self.wishes, before, self.answers(runs), behind):
+            elif behind is None or not is_as_if(self.wishes, before, self.answers_of(runs), behind):
                 out.append((order, GOAL))
         return out
 
-    def answers(self, runs):
+    def answers_of(self, runs):
         """The answers of two calls that have come to an end at the root; None for one without."""
         return [how[1] if how[0] == "end" else None for _, how in runs]

@@ -82,7 +82,15 @@ LAZY_STRIKE = """turn:
     unmark
     return yes"""
 
-UP = {"has": HAS, "put": PUT, "strike": STRIKE, "begins": BEGINS, "longest": LONGEST}
-KEPT = {"has": HAS, "put": PUT, "strike": KEPT_STRIKE, "begins": BEGINS, "longest": LONGEST}
-JOINED = {"has": HAS, "put": JOINED_PUT, "strike": JOINED_STRIKE, "begins": BEGINS, "longest": LONGEST}
-LAZY = {"has": HAS, "put": PUT, "strike": LAZY_STRIKE, "longest": LONGEST}
+
+def texts_of(name):
+    """A dict from the wishes, in order, to the texts of a known house; None for any other value."""
+    if name == "up":
+        return {"has": HAS, "put": PUT, "strike": STRIKE, "begins": BEGINS, "longest": LONGEST}
+    if name == "kept":
+        return {"has": HAS, "put": PUT, "strike": KEPT_STRIKE, "begins": BEGINS, "longest": LONGEST}
+    if name == "joined":
+        return {"has": HAS, "put": JOINED_PUT, "strike": JOINED_STRIKE, "begins": BEGINS, "longest": LONGEST}
+    if name == "lazy":
+        return {"has": HAS, "put": PUT, "strike": LAZY_STRIKE, "longest": LONGEST}
+    return None

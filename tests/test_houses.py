@@ -435,6 +435,15 @@ class KindsTest(TreesCase):
         self.assert_error(TooMany, fields, rounds, one_each + [MANY])
         self.assert_error(TooMany, fields, least_rule, [MANY] + one_each)
 
+    def test_equal_calls_return_equal_results(self):
+        drawer = Drawer(86)
+        for _ in range(40):
+            routine, rule = drawer.routine(6), drawn_rule(drawer)
+            before = (routine.text(), rule.root, rule.others)
+            told = kinds_behind(routine, rule)
+            self.assertEqual(told, kinds_behind(Routine.read(routine.text()), Rule(rule.root[::-1], rule.others)))
+            self.assertEqual(before, (routine.text(), rule.root, rule.others))
+
     def test_rounds(self):
         drawer = Drawer(84)
         pool = [one for name in HOUSES for one in known_house(name).routines.values()]

@@ -15,7 +15,7 @@ from tests.drawing import Drawer
 from tests.searching import KINDS, NAMES, drawn_rule, small_trees, variants
 from tests.support import TreesCase, odd_values
 from tests.test_tables import MANY
-from tests.weaving import ORDERS, all_woven, is_line, is_one_after_the_other, plain_clashes, word_pairs
+from tests.weaving import ORDERS, all_woven, is_held, is_line, is_one_after_the_other, plain_clashes, word_pairs
 
 HOUSES = ("up", "kept", "joined", "lazy")
 WISHES = ("has", "put", "strike")
@@ -176,6 +176,41 @@ class MeetsTest(MeetsCase):
         for one, other in itertools.product((STRIKE, KEPT_STRIKE, LAZY_STRIKE, STOP_STRIKE), repeat=2):
             self.check(one, "strike", other, "strike", BARE, few(small_trees(BARE, "ab", 3), Drawer(135), 30))
             self.check(one, "strike", PUT, "put", BARE, few(small_trees(BARE, "ab", 3), Drawer(136), 30))
+
+    def test_great_trees_and_long_words(self):
+        """Drawn weavings of calls that are safe."""
+        drawer = Drawer(140)
+        many = 0
+        for number in range(40):
+            house = known_house(HOUSES[number % 3])
+            wish, second = drawer.random.choice(WISHES), drawer.random.choice(WISHES)
+            routines = {**house.routines, "put": CARRY} if number % 4 == 0 else house.routines
+            one = right_ones(routines[wish], house.rule, wish, 14000 + number, 10, "px", 100)[-1]
+            other = routines[second]
+            order = weakest(one, wish, other, second, house.rule)
+            for _ in range(60 if order else 0):
+                tree = house.rule.tree_of("abc", sorted({drawer.word("ab", 5) for _ in range(5)}))
+                word = drawer.word("ab", 6)
+                pair = (word, drawer.random.choice([word, drawer.word("ab", 6), word[:2], word + drawer.word("ab", 2)]))
+                signs = self.drawn_weaving(drawer, tree, one, pair[0], other, pair[1])
+                if order == "free" or (is_line(tree, one, pair[0], other, pair[1], signs) if order == "line"
+                                       else is_held(signs)):
+                    many += 1
+                    done = woven(tree, one, pair[0], other, pair[1], signs)
+                    self.assertTrue(is_one_after_the_other(house.rule, (wish, second), tree, pair, done),
+                                    (one.text(), other.text(), tree.rows, pair, signs))
+        self.assertGreater(many, 1000)
+
+    def drawn_weaving(self, drawer, tree, one, word, other, second):
+        """Any weaving of both calls, those that stay with one call for long among them."""
+        signs, stays = "", drawer.random.random()
+        while True:
+            rest = woven(tree, one, word, other, second, signs).order[len(signs):]
+            if rest == "":
+                return signs
+            live = [sign for sign in "ab" if sign in rest]
+            last = signs[-1:]
+            signs += last if last in live and last and drawer.random.random() < stays else drawer.random.choice(live)
 
     def test_pairs_of_words(self):
         """Both the same, one along the other, beside it, and the empty word."""
