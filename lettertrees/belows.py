@@ -39,7 +39,7 @@ class Shared:
             return self._behind
         if number == 1 and anew is None and self.there[0]:
             return kept, second, True
-        return False, False, self.bare_is_let and (number == 1 or not more)
+        return False, False, self.bare_is_let and not more
 
     def is_run_in(self, number, anew):
         """Whether a call runs in the child of this number."""
@@ -77,12 +77,13 @@ class Fork:
     def left_of(self, call, number, anew):
         """Whether this call's word is kept behind the place then, and whether all else is well on its way there."""
         single = self.singles[call]
-        if single is None or (anew is not None and anew != call):
+        if single is None:
             return False, True
-        if number == 0:
-            return False, anew is not None or not single[3][1]
+        kept, more = single[3]
+        if number == 0 or (anew is not None and anew != call):
+            return False, not more
         if single[2] is not None:
             return single[4]
         if anew is None and single[1]:
-            return single[3][0], True
-        return False, self.bare_is_let
+            return kept, True
+        return False, self.bare_is_let and not more

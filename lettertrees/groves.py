@@ -96,9 +96,8 @@ class Grove:
         name, word, left = self.root, "", rank
         while not self._rules[name][0] or left > 0:
             parts = self._rules[name][2]
-            # The last letter behind which no more words lie than are left.
-            letter = [sign for sign in self.letters if sign in parts and self.many_ahead(name, sign) <= left
-                      and self._manys[parts[sign]] > 0][-1]
+            # Where no words lie below a letter the next one has as many ahead.
+            letter = [sign for sign in self.letters if sign in parts and self.many_ahead(name, sign) <= left][-1]
             left = left - self.many_ahead(name, letter)
             name, word = parts[letter], word + letter
         return word

@@ -154,11 +154,12 @@ class Joints:
         if final is None:
             return before[1], before[2], True
         mark, flag, children = final
-        met = place if anew is None else FRESH
         kept, second, well = below.left(children, anew)
         many = len([number for number in (children[:1] if below.same else children) if number > 0])
-        if (mark, flag, min(2, met[2] + many)) not in (self.rule.root if root else self.rule.others):
+        others = place[2] if anew is None else 0
+        if (mark, flag, min(2, others + many)) not in (self.rule.root if root else self.rule.others):
             well = False
-        if (below.goes == (True, True) and mark != met[0]) or (anew is not None and before[3]):
+        # A place made anew may be marked as the one that was there first, but what hung beside that one is lost.
+        if (below.goes == (True, True) and mark != place[0]) or (anew is not None and place[3]):
             well = False
         return kept if below.goes[0] else mark, second if below.goes[1] else mark, well

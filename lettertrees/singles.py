@@ -64,12 +64,7 @@ class Singles:
             if below[2] is None or below[0] == anew:
                 met = FRESH if anew else place
                 for run, row in runs_at(self.stays, met, ends, below[1] and not anew, below[2], self.entries):
-                    behind = None
-                    if not is_bad(run):
-                        behind = self.behind(met, row, ends, below, anew)
-                        if anew:
-                            behind = (behind[0], behind[1] and not before[1])
-                    told = (None, None) if behind is None else (before, behind)
+                    told = (None, None) if is_bad(run) else (before, self.behind(place, row, ends, below, anew))
                     out.append((anew, cell is not None, run) + told)
         return out
 
@@ -83,7 +78,11 @@ class Singles:
         return kept, more or place[0] or place[3]
 
     def behind(self, place, row, ends, below, anew):
-        """Whether the word is kept then, and whether all else is well from a place on that has this row now."""
+        """Whether the word is kept then, and whether all else is well from a place on that has this row now.
+
+        place is the cell of the place that was there first. One that is made anew may be marked as that one was, but
+        what hung beside it is lost.
+        """
         mark, flag, follows = row
         _, there, run, before, behind = below
         if not follows:
@@ -93,9 +92,9 @@ class Singles:
         elif there and not anew:
             kept, well = before[0], True
         else:
-            kept, well = False, BARE in self.rule.others
-        children = min(2, place[2] + 1) if follows else place[2]
-        is_let = (mark, flag, children) in self.rule.others
-        if ends:
-            return mark, is_let
-        return kept, well and is_let and mark == place[0]
+            kept, well = False, BARE in self.rule.others and not before[1]
+        others = 0 if anew else place[2]
+        well = well and (mark, flag, min(2, others + 1) if follows else others) in self.rule.others
+        if anew and place[3]:
+            well = False
+        return (mark, well) if ends else (kept, well and mark == place[0])

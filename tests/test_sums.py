@@ -77,6 +77,11 @@ class SurveyTest(TreesCase):
         for routine in (node, known_house("kept").routines["strike"], drawer.routine(6), drawer.routine(6)):
             for many in (1, 2, 7):
                 self.check(routine, JOINED, "ab", 3, many)
+        # What is cut off is told by how many words lie below, however deep they part.
+        for text in ("up:\n    if at root:\n        cut\n        return yes", "up:\n    if others == 1:\n        cut",
+                     "down:\n    if at root:\n        keep\nturn:\n    return yes, cut"):
+            for many in (1, 2, 3, 5, 8):
+                self.check(Routine.read(text), PLAIN, "ab", 3, many)
         self.check(UP.routines["strike"], PLAIN, "ab", 4, 2)
         self.check(UP.routines["strike"], PLAIN, "ab", 5, 1)
 
