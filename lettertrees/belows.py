@@ -80,7 +80,7 @@ class Fork:
         if single is None:
             return False, True
         kept, more = single[3]
-        if number == 0 or (anew is not None and anew != call):
+        if number == 0:
             return False, not more
         if single[2] is not None:
             return single[4]

@@ -6,12 +6,10 @@ import unittest
 from lettertrees.belows import Fork, Shared
 from lettertrees.cells import cells
 from lettertrees.joints import links_of
-from lettertrees.least import GOAL
 from lettertrees.meeting import Meeting
-from lettertrees.outcomes import FRESH
 from lettertrees.routines import Routine
 from lettertrees.rules import Rule, kind_of
-from lettertrees.trees import shared
+from lettertrees.trees import Tree, shared
 from tests.drawing import Drawer
 from tests.searching import KINDS, variants
 from tests.test_histories import HOUSES
@@ -72,10 +70,13 @@ class OutcomesTest(unittest.TestCase):
         return Rule([kind for kind in KINDS if kind == kind_of(tree, "") or drawer.random.random() < 0.6], low)
 
     def check(self, one, other, drawer, letters="ab", size=6, longest=3):
+        """How many outcomes there are on a drawn tree, with drawn words."""
         tree = drawer.tree(letters, size)
-        rule = self.rule_for(tree, drawer)
         pair = drawer.random.choice([(drawer.word(letters, longest), drawer.word(letters, longest)),
                                      drawer.random.choice(word_pairs(longest))])
+        return self.check_told(one, other, tree, pair, self.rule_for(tree, drawer))
+
+    def check_told(self, one, other, tree, pair, rule):
         outcomes = {order: set() for order in ORDERS}
         for number, done in enumerate(all_woven(tree, one, pair[0], other, pair[1])):
             if number > 3000:
@@ -91,6 +92,42 @@ class OutcomesTest(unittest.TestCase):
             self.assertEqual(told_outcomes(meeting, tree, pair), outcomes[order],
                              (order, one.text(), other.text(), tree.rows, pair, rule.root, rule.others))
         return len(outcomes["free"])
+
+    def test_told_routines_on_small_trees(self):
+        """Each of them leaves something behind for the other ones, in places that they make and cut off."""
+        make = "down:\n    if not next:\n        make\n"
+        end = "    if at root:\n        if x:\n            return yes\n        return no\n"
+        texts = [
+            make + "turn:\n    f = true\n" + end + "up:\n    f = true\n    if next:\n        cut\n" + end,
+            make + "    if f:\n        x = true\nturn:\n    if f:\n        x = true\n" + end + "up:\n" + end,
+            make + "    mark\nturn:\n    mark\n" + end + "up:\n" + end,
+            make + "    if marked:\n        x = true\n    mark\nturn:\n" + end + "up:\n    if next and at root:\n"
+            "        cut\n" + end,
+            make + "    if at root:\n        stop\nturn:\n    if next:\n        x = true\n" + end + "up:\n" + end,
+            "down:\n    if at root:\n        stop\nturn:\n    if next:\n        cut\n        x = true\n" + end,
+            "down:\n    if at root:\n        keep\nturn:\n    f = true\n    if p and not at p:\n        return no, cut\n" + end,
+            make + "    if f:\n        x = true\n    f = true\nturn:\n    f = true\n" + end + "up:\n    unmark\n"
+            "    if next and not x:\n        cut\n" + end,
+            "turn:\n    if next:\n        cut\n    if not at end:\n        x = true\n" + end + "up:\n    if not next:\n"
+            "        x = true\n" + end,
+        ]
+        drawer = Drawer(155)
+        routines = [Routine.read(text.rstrip("\n")) for text in texts]
+        many = {}
+        for one, other in itertools.product(routines, routines):
+            for number in range(18):
+                tree = drawer.tree("ab", drawer.random.choice([1, 2, 4]))
+                pair = drawer.random.choice(word_pairs(2))
+                if number > 10:
+                    # The ways part below the place that is cut off, where more hangs beside.
+                    tree, pair = drawer.tree("abc", 7), drawer.random.choice([("aa", "ab"), ("aa", "a"), ("a", "aa")])
+                # Trees whose flags are all off tell best who has been there.
+                if drawer.random.random() < 0.7:
+                    tree = Tree(tree.letters, [(place, mark, False) for place, mark, _ in tree.rows])
+                told = self.check_told(one, other, tree, pair, self.rule_for(tree, drawer))
+                many[told] = many.get(told, 0) + 1
+        for number in (1, 2, 3):
+            self.assertGreater(many.get(number, 0), 10, many)
 
     def test_drawn_routines(self):
         drawer = Drawer(151)
@@ -139,6 +176,38 @@ class OutcomesTest(unittest.TestCase):
             body += [end] if end else []
             lines += [f"{name}:"] * bool(body) + ["    " + one for one in body]
         return Routine.read("\n".join(lines))
+
+    def test_cuts_and_children_made_anew(self):
+        """Routines that make the way, and cut it off again as they come up, by what they have met."""
+        drawer = Drawer(154)
+        many = {}
+        for _ in range(400):
+            one, other = self.cutting_routine(drawer), self.cutting_routine(drawer)
+            told = self.check(one, other, drawer, "ab", drawer.random.choice([1, 2, 3, 5]))
+            many[min(told, 3)] = many.get(min(told, 3), 0) + 1
+        for number in (1, 2, 3):
+            self.assertGreater(many.get(number, 0), 5, many)
+
+    def cutting_routine(self, drawer):
+        tests = ["x", "not x", "f", "not f", "others == 0", "at root", "not at root", "marked", "not marked", "true",
+                 "(x and not f)", "(f or x)"]
+        plain = ["f = true", "f = false", "x = true", "x = false", "if marked:\n        x = true", "if f:\n        x = true",
+                 "if not next:\n        x = true", "if x:\n        f = true\n    else:\n        f = false"]
+        marks = ["mark", "unmark"]
+        end = "if at root:\n        if x:\n            return yes\n        return no"
+
+        def some(statements, most):
+            return drawer.random.sample(statements, drawer.random.randint(0, most))
+
+        keeps = some([f"if {drawer.random.choice(tests[:10])}:\n        keep"], 1)
+        down = some(plain, 1) + keeps + some(["if not next:\n        make", "if not next:\n        make\n        x = true",
+                                              "if not next and not f:\n        make"], 1) + some(plain + marks[:1], 1)
+        turn = some(plain + marks, 2) + some(["if next:\n        cut"] if not keeps else [
+            "if p and not at p:\n        return yes, cut", "if p and not at p:\n        return no, cut"], 1) + [end]
+        turn += some([f"if {drawer.random.choice(tests[:10])}:\n        return yes"], 1)
+        up = some(plain + marks, 1) + [f"if next and {drawer.random.choice(tests)}:\n        cut"] + some(plain + marks, 1)
+        lines = ["down:"] * bool(down) + ["    " + one for one in down] + ["turn:"] + ["    " + one for one in turn]
+        return Routine.read("\n".join(lines + ["up:"] + ["    " + one for one in up + [end]]))
 
 
 class LinksTest(unittest.TestCase):
