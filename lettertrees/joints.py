@@ -44,19 +44,26 @@ def links_of(order, link, shared):
     return out
 
 
+def entries_below(stays, root, ends, entry):
+    """A dict of the entries with which calls that come to places with this one may go down; None if they may stay."""
+    found = {}
+    for row in [(mark, flag, follows) for mark in BOOLS for flag in BOOLS for follows in BOOLS]:
+        for others in (0, 1, 2):
+            how, _ = stays.step("down", (root, ends, others), row, own_of(entry))
+            found[entry_of(how) if how[0] == "down" else None] = True
+    return found
+
+
 def entries_reached(stays, routine):
     """The list of the entries of a routine with which some call may go down."""
     found = {}
     ahead = [(True, NO_ENTRY)]
-    rows = [(mark, flag, follows) for mark in BOOLS for flag in BOOLS for follows in BOOLS]
     while ahead:
         root, entry = ahead.pop()
-        for row in rows:
-            for others in (0, 1, 2):
-                how, _ = stays.step("down", (root, False, others), row, own_of(entry))
-                if how[0] == "down" and entry_of(how) not in found:
-                    found[entry_of(how)] = True
-                    ahead.append((False, entry_of(how)))
+        for gone in entries_below(stays, root, False, entry):
+            if gone is not None and gone not in found:
+                found[gone] = True
+                ahead.append((False, gone))
     return [entry for entry in entries_of(routine) if entry in found]
 
 
@@ -78,6 +85,9 @@ class Joints:
         self.stays = (Stays(one), Stays(other))
         self.entries = [entries_reached(stays, routine) for stays, routine in zip(self.stays, (one, other))]
         self.singles = [Singles(stays, rule, entries) for stays, entries in zip(self.stays, self.entries)]
+        # For both calls, from (whether the word ends, entry) to the entries that may come from it below.
+        self.gone = [{(ends, entry): entries_below(stays, False, ends, entry) for ends in BOOLS for entry in entries}
+                      for stays, entries in zip(self.stays, self.entries)]
         self.known = {}
 
     def options(self, root, place, below):
@@ -100,8 +110,13 @@ class Joints:
         """The pairs of entries with which calls may come to a place, so that somebody comes."""
         if root:
             return [(NO_ENTRY, NO_ENTRY)]
-        ones, others = [entries + ([None] if run is None else []) for entries, run in zip(self.entries, below.runs)]
+        ones, others = [self.entries_to(call, below) + ([None] if below.runs[call] is None else []) for call in (0, 1)]
         return [(one, other) for one in ones for other in others if one is not None or other is not None]
+
+    def entries_to(self, call, below):
+        """The entries with which a call may come to a place and run as it does below."""
+        gone = None if below.runs[call] is None else below.runs[call][0]
+        return [entry for entry in self.entries[call] if gone in self.gone[call][(not below.goes[call], entry)]]
 
     def at_first(self, root, place, below):
         """The options at a place that was there first."""
@@ -126,7 +141,7 @@ class Joints:
         """All (run, final) of one call that comes to a place without the other one."""
         out = []
         runs = self.only(call, below.runs[call])
-        for entry in self.entries[call]:
+        for entry in self.entries_to(call, below):
             scene = Scene(self.stays, place, below.goes, below.same, there, self.only(call, entry), runs, None)
             out.extend([((entry, hows[call]), final) for _, hows, final in scene.all_orders()])
         return out
